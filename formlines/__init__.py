@@ -1,0 +1,1 @@
+"""Formlines: forms whose lines are rules over other lines."""
