@@ -14,6 +14,26 @@ FUNCTIONS = (
     ("formlines.tables", "at_number", ("table", "number")),
     ("formlines.rules", "is_rule", ("thing", "lines", "tables", "choices")),
     ("formlines.rules", "named", ("rule", "word")),
+    ("formlines.forms", "form_of", ("lines", "tables", "choices", "owed")),
+    ("formlines.forms", "ring_of", ("lines",)),
+    ("formlines.forms", "order_of", ("form",)),
+    ("formlines.reckoning", "reckoned", ("form", "pairs", "earlier", "taken")),
+    ("formlines.reckoning", "history", ("form", "years", "taken")),
+    ("formlines.reckoning", "hanging", ("form", "count", "year", "word")),
+    ("formlines.reckoning", "hanging_choice", ("form", "count", "year", "choice")),
+    ("formlines.choosing", "sums", ("form", "years")),
+    ("formlines.choosing", "least", ("form", "years")),
+)
+
+# What the class File is made of, and each of its methods.
+MADE_OF = ("form", "count")
+METHODS = (
+    ("put", ("self", "year", "word", "number")),
+    ("take", ("self", "year", "choice", "taken")),
+    ("values", ("self", "year")),
+    ("value", ("self", "year", "line")),
+    ("owed", ("self",)),
+    ("told", ("self", "year")),
 )
 
 # What a module may be imported from, beside the package: none of it tells the time, draws lots or reads files.
@@ -39,6 +59,16 @@ class TestInterface(unittest.TestCase):
                 self.assertEqual(function.__module__, module)
                 self.assertEqual(function.__name__, name)
                 self.assertEqual(tuple(inspect.signature(function).parameters), parameters)
+
+    def test_the_class_is_defined_in_its_file_with_its_methods(self):
+        kind = importlib.import_module("formlines.files").File
+        self.assertTrue(inspect.isclass(kind))
+        self.assertEqual((kind.__module__, kind.__name__), ("formlines.files", "File"))
+        self.assertEqual(tuple(inspect.signature(kind).parameters), MADE_OF)
+        for name, parameters in METHODS:
+            with self.subTest(name=name):
+                self.assertTrue(inspect.isfunction(vars(kind).get(name)))
+                self.assertEqual(tuple(inspect.signature(vars(kind)[name]).parameters), parameters)
 
     def test_arguments_by_name(self):
         tables = importlib.import_module("formlines.tables")
